@@ -30,14 +30,14 @@ func within(f part) part {
 	}
 }
 
-// only returns the part that keeps a node for which a test holds.
+// only returns the part that keeps a node for which a test holds, however deep it is.
 func only(holds func(api.Node) bool) part {
-	return within(func(n api.Node, _ int, _ bool) (api.Node, api.Errno) {
+	return func(n api.Node, _ int, _ bool) (api.Node, api.Errno) {
 		if !holds(n) {
 			return api.Node{}, api.ErrTarget
 		}
 		return copied(n), api.OK
-	})
+	}
 }
 
 // keep keeps a node, whatever it is and however deep: a hole, a key or the value of a default.
@@ -83,7 +83,7 @@ func element(n api.Node, depth int, last bool) (api.Node, api.Errno) {
 	if n.S != "=" || len(n.Kids) != 2 {
 		return api.Node{}, api.ErrTarget
 	}
-	return made(api.Node{Op: api.NDefault, At: n.At}, n.Kids, depth, pair(only(isPattern), keep))
+	return made(api.Node{Op: api.NDefault, At: n.At}, n.Kids, depth, pair(within(only(isPattern)), keep))
 }
 
 // listed converts an expression of a list, at whose end the rest may be gathered.
@@ -126,7 +126,7 @@ func property(n api.Node, depth int, last bool) (api.Node, api.Errno) {
 	case n.N == api.PropShort && (count == 1 || count == 2):
 		return made(head, written(n.Kids), depth, pair(only(isText), within(element)))
 	case n.N == api.PropSpread && count == 1 && last:
-		return made(api.Node{Op: api.NRest, At: n.At}, n.Kids, depth, only(Target))
+		return made(api.Node{Op: api.NRest, At: n.At}, n.Kids, depth, within(only(Target)))
 	}
 	return api.Node{}, api.ErrTarget
 }

@@ -173,6 +173,32 @@ func TestPatternDepthOfParts(t *testing.T) { // P5.1
 	}
 }
 
+// TestKeysAreNotConverted holds keys of which depth does not tell against the names and defaults behind them, of which it does.
+func TestKeysAreNotConverted(t *testing.T) { // P5.1
+	for _, key := range []string{"Name:k", "Num#1", "Hole", "0", "Array", "Assign:=(Name:a Num)"} {
+		for _, rest := range []string{"", " Num", " Name:a"} {
+			s := "Object(Prop#3(" + key + rest + "))"
+			for depth := 196; depth <= 199; depth++ {
+				wantNoPattern(t, nested(depth-1, "Array", s), api.ErrTarget)
+				wantNoParams(t, nested(depth-2, "Array", s), api.ErrTarget)
+			}
+			wantNoPattern(t, nested(199, "Array", s), api.ErrDeep)
+			wantNoParams(t, nested(198, "Array", s), api.ErrDeep)
+		}
+	}
+	for _, s := range []string{"Object(Prop#3(Text:k))", "Object(Prop#3(Text:k Num))", "Object(Prop#3(Text:k) Prop#3(Name:k))"} {
+		wantNoPattern(t, nested(198, "Array", s), api.ErrDeep)
+		wantNoParams(t, nested(197, "Array", s), api.ErrDeep)
+	}
+	for _, key := range []string{"Text:k", "Num#1", "Hole", "Array(Array)"} {
+		wantNoPattern(t, nested(198, "Array", "Object(Prop("+key+" Num))"), api.ErrDeep)
+		wantNoPattern(t, nested(197, "Array", "Object(Prop("+key+" Num))"), api.ErrTarget)
+	}
+	// The first error from the left is told.
+	wantNoPattern(t, nested(198, "Array", "Object(Prop#3(Name:k) Prop#3(Text:k))"), api.ErrTarget)
+	wantNoPattern(t, nested(198, "Array", "Object(Prop#3(Text:k) Num)"), api.ErrDeep)
+}
+
 func TestFirstError(t *testing.T) { // P5.1
 	tooDeep := nested(200, "Array", "Name:z")
 	for _, x := range []struct {
